@@ -14,7 +14,7 @@ func Lies(h []api.Node, r api.Ref, bits int) bool {
 		return false
 	}
 	w := &walk{h: h, bits: bits, keys: map[string]int{}}
-	return w.lies(r, nil)
+	return r == 0 || w.lies(r, nil)
 }
 
 // walk visits the nodes below a reference; keys holds the keys that it has met.
@@ -27,26 +27,28 @@ type walk struct {
 
 // lies reports whether r is well-formed at the end of a path of chunks.
 func (w *walk) lies(r api.Ref, path []int) bool {
-	if r == 0 {
-		return true
+	n, ok := w.visit(r)
+	for ok && n.Kind == api.NInner {
+		n, ok = w.visit(n.Main)
 	}
-	// Below a well-formed reference there is one way to each node: more visits are too many.
-	w.visits++
-	if w.visits > len(w.h) {
-		return false
-	}
-	n := w.h[r-1]
 	switch n.Kind {
 	case api.NLeaf, api.NTomb:
 		return w.bound(n, path)
 	case api.NBucket:
 		return len(path) >= hash.Levels(w.bits) && w.bound(n, path)
-	case api.NInner:
-		return w.lies(n.Main, path)
 	case api.NBranch:
 		return len(path) < hash.Levels(w.bits) && w.branch(n, path)
 	}
 	return false
+}
+
+// visit returns the node of r, unless it is one too many: below a well-formed reference there is one way to each node.
+func (w *walk) visit(r api.Ref) (api.Node, bool) {
+	w.visits++
+	if w.visits > len(w.h) {
+		return api.Node{}, false
+	}
+	return w.h[r-1], true
 }
 
 // branch reports whether a branch is well-formed: with a binding below each child, and the right Size.
