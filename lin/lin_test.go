@@ -201,6 +201,105 @@ func TestAll(t *testing.T) {
 	}
 }
 
+// plain finds the least linearization by trying all entries one after the other.
+func plain(c api.Config, ops []hist.Op, placed map[int]bool, s model.State, l []int) ([]int, bool) {
+	done := true
+	for i, x := range ops {
+		done = done && (placed[i] || !x.Done)
+	}
+	if done {
+		return l, true
+	}
+next:
+	for i, x := range ops {
+		for j, y := range ops {
+			if placed[i] || !placed[j] && hist.Ahead(y, x) {
+				continue next
+			}
+		}
+		state, ok := model.After(c, s, x.C)
+		if x.Done {
+			state, ok = model.Step(c, s, x.C, x.A)
+		}
+		if !ok {
+			continue
+		}
+		placed[i] = true
+		if out, is := plain(c, ops, placed, state, append(slices.Clone(l), i)); is {
+			return out, true
+		}
+		placed[i] = false
+	}
+	return nil, false
+}
+
+// longer makes a history of nine entries, of which more come at once than in random.
+func longer(d *dice) []api.Event {
+	var h []api.Event
+	var s model.State
+	busy, early := map[int]api.Call{}, map[int]api.Answer{}
+	answer := func(c api.Call) api.Answer {
+		a, ok := model.Answer(treap(), s, c)
+		if !ok {
+			a = api.Answer{N: d.roll(3)}
+		}
+		s, _ = model.Step(treap(), s, c, a)
+		return a
+	}
+	threads, keys := 2+d.roll(6), 1+d.roll(2)
+	for begun := 0; begun < 9 || len(busy) > 2; {
+		thread := d.roll(threads)
+		c, is := busy[thread]
+		if !is && begun < 9 {
+			begun++
+			c = api.Call{Op: 1 + d.roll(13), Key: strconv.Itoa(d.roll(keys)), Val: strconv.Itoa(d.roll(2)), Old: strconv.Itoa(d.roll(2)), H: d.roll(3)}
+			if d.roll(2) == 0 {
+				c.Op = 1 + d.roll(5)
+			}
+			busy[thread] = c
+			h = append(h, begin(thread, c))
+			if d.roll(2) == 0 {
+				early[thread] = answer(c)
+			}
+		}
+		if !is {
+			continue
+		}
+		a, known := early[thread]
+		if !known {
+			a = answer(c)
+		}
+		if d.roll(12) == 0 {
+			a = api.Answer{Has: d.roll(2) == 0, Val: strconv.Itoa(d.roll(2))}
+		}
+		delete(busy, thread)
+		delete(early, thread)
+		h = append(h, end(thread, c, a))
+	}
+	return h
+}
+
+// Promises 33.1 and 33.2: against a plain search.
+func TestPlain(t *testing.T) {
+	d := dice(99)
+	good := 0
+	for range 6000 {
+		h := longer(&d)
+		ops, _ := hist.Ops(h)
+		want, is := plain(treap(), ops, map[int]bool{}, model.State{}, nil)
+		l, ok, e := lin.Check(treap(), h)
+		if !slices.Equal(l, want) || ok != is || e != api.OK {
+			t.Fatalf("%v: %v, %v, %v, want %v, %v", h, l, ok, e, want, is)
+		}
+		if ok {
+			good++
+		}
+	}
+	if good < 1000 || good > 5000 {
+		t.Errorf("%d histories were linearizable: the test is worth little", good)
+	}
+}
+
 // Promise 33.2: entries one after the other.
 func TestSequence(t *testing.T) {
 	d := dice(3)
