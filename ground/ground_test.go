@@ -196,8 +196,7 @@ func TestBinds(t *testing.T) {
 
 // Promises 34.1 and 34.2: a ground that New did not make.
 func TestInvalid(t *testing.T) {
-	made := example(t)
-	for _, g := range []*ground.Ground{nil, {}, {C: made.C, M: made.M, X: made.X}} {
+	for _, g := range []*ground.Ground{nil, {}, {C: example(t).C}} {
 		reach, stale := g.Reach()
 		l, ok := g.Binds(0)
 		m, is := g.Binds(1026)

@@ -161,9 +161,7 @@ func TestWays(t *testing.T) {
 
 // Promise 17.2: the iteration.
 func TestRefs(t *testing.T) {
-	h := example()
-	seq := heap.Refs(h, 3)
-	h[2].Kids[0] = 2
+	seq := heap.Refs(example(), 3)
 	for range 2 {
 		if l := slices.Collect(seq); !slices.Equal(l, []api.Ref{3, 2, 1}) {
 			t.Errorf("Refs yields %v", l)

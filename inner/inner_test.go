@@ -163,7 +163,7 @@ func TestDrop(t *testing.T) {
 		child api.Ref
 		c     api.Node
 		key   string
-	}{{bucket, 5, a, "x"}, {n, 0, a, "a"}, {n, 5, b, "a"}, {n, 5, node.Inner(3), "a"}, {n, 5, node.Tomb("a", "1"), "a"}, {a, 5, a, "a"}, {node.Tomb("a", ""), 5, a, "a"}, {api.Node{}, 5, a, "a"}, {node.Bucket(binds("a", "1")...), 5, a, "a"}} {
+	}{{bucket, 5, a, "x"}, {n, 0, a, "a"}, {n, 5, b, "a"}, {n, 5, node.Inner(3), "a"}, {n, 5, node.Tomb("a", "1"), "a"}, {a, 5, a, "a"}, {node.Tomb("a", ""), 5, a, "a"}, {api.Node{}, 5, a, "a"}} {
 		if p, e := inner.Drop(7, c.n, c.child, c.c, b, c.key, 1, 64); e != api.ErrForm || len(p.New)+len(p.Old) != 0 || p.Root != 0 {
 			t.Errorf("Drop with %v: %v, %v", c, p, e)
 		}

@@ -7,7 +7,6 @@ import (
 	"boscage/ground"
 	"boscage/hand"
 	"boscage/hist"
-	"boscage/limbo"
 	"boscage/lin"
 	"boscage/sweep"
 	"boscage/swing"
@@ -291,14 +290,5 @@ func TestInterleaved(t *testing.T) {
 			t.Fatalf("seed %d: not linearizable: %v, %v", seed, h, e)
 		}
 		checkSweep(t, g)
-	}
-}
-
-// Promise 38.2: what is pushed and no node is not counted as freed.
-func TestStale(t *testing.T) {
-	g := lay(t, config(api.Hamt, 9, 1, 0, 0))
-	g.X.Push(0, limbo.Group{Stamp: 1, Death: 1, L: []limbo.Item{{Ref: 77}}})
-	if a, _ := run(t, g, api.Call{Op: api.OpSweep}); a != (api.Answer{}) {
-		t.Errorf("the sweep freed %d nodes", a.N)
 	}
 }

@@ -130,7 +130,7 @@ func TestErrors(t *testing.T) {
 		x    api.Call
 		want api.Errno
 	}{
-		{nil, 9, api.Call{}, api.ErrForm}, {&ground.Ground{}, 0, get, api.ErrForm}, {&ground.Ground{C: g.C, M: g.M, X: g.X}, 0, get, api.ErrForm},
+		{nil, 9, api.Call{}, api.ErrForm}, {&ground.Ground{}, 0, get, api.ErrForm}, {&ground.Ground{C: g.C}, 0, get, api.ErrForm},
 		{other, 0, get, api.ErrArg}, {g, 1, api.Call{}, api.ErrArg}, {g, -1, get, api.ErrArg}, {g, math.MaxInt, get, api.ErrArg},
 		{g, 0, api.Call{Op: api.OpSnap, Key: long}, api.ErrKind}, {g, 0, api.Call{}, api.ErrKind}, {g, 0, api.Call{Op: 14}, api.ErrKind}, {g, 0, api.Call{Op: api.OpSweep}, api.ErrKind}, {g, 0, api.Call{Op: -1}, api.ErrKind},
 		{g, 0, api.Call{Op: api.OpFloor, Key: long}, api.ErrArg}, {g, 0, api.Call{Op: api.OpGet, Key: long}, api.ErrLong}, {g, 0, api.Call{Op: api.OpSwap, Old: long}, api.ErrLong},
