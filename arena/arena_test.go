@@ -120,6 +120,9 @@ func TestIncarnations(t *testing.T) {
 			a.Free(freed)
 			gone[freed] = true
 		}
+		if a.Used() != len(a.All()) {
+			t.Fatalf("%d slots used, %v live", a.Used(), a.All())
+		}
 		slots := map[api.Ref]bool{}
 		for _, r := range a.All() {
 			if slots[r%1024] {

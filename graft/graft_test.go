@@ -108,6 +108,41 @@ func TestInsertions(t *testing.T) {
 	}
 }
 
+// similar returns keys of which each shares a certain number of chunks with the first one: none, one, two or all of three.
+func similar() []string {
+	first := hash.Of("a", 15)
+	l := []string{"a"}
+	for shared := range 4 {
+		for i := 0; len(l) < 3*shared+4; i++ {
+			key := strconv.Itoa(i)
+			h := hash.Of(key, 15)
+			same := 0
+			for same < 3 && hash.Chunk(h, same, 15) == hash.Chunk(first, same, 15) {
+				same++
+			}
+			if same == shared {
+				l = append(l, key)
+			}
+		}
+	}
+	return l
+}
+
+// Promise 23.3: keys whose hashes differ late or not at all.
+func TestSimilar(t *testing.T) {
+	for _, a := range similar() {
+		for _, b := range similar() {
+			for _, c := range similar() {
+				h, r, _ := trie.Make(15, binds(a, "1", b, "2")...)
+				g, s, e := graft.Run(h, r, graft.Put, c, "3", "", 15)
+				if e != api.OK || !trie.Is(g, s, 15) || !slices.Equal(bound(g, s), pair.Make(binds(a, "1", b, "2", c, "3")...)) {
+					t.Errorf("Put of %s into %s and %s: %v", c, a, b, e)
+				}
+			}
+		}
+	}
+}
+
 // Promise 23.2: the chapter's examples.
 func TestExamples(t *testing.T) {
 	h, r, _ := trie.Make(64, binds("a", "1", "b", "2")...)
@@ -144,6 +179,9 @@ func TestErrors(t *testing.T) {
 		if g, s, e := graft.Run(h, c.root, c.how, c.key, c.val, "", 64); len(g) != 0 || s != 0 || e != c.want {
 			t.Errorf("Run with %v: %v, %d, %v", c, g, s, e)
 		}
+	}
+	if _, _, e := graft.Run(h, r, graft.Put, long[1:], long[1:], "", 64); e != api.OK {
+		t.Errorf("strings of 16 bytes: %v", e)
 	}
 	if _, _, e := graft.Run(h, r, graft.Swap, "a", "1", long, 64); e != api.OK {
 		t.Errorf("a long old value: %v", e)

@@ -91,6 +91,7 @@ func TestMeasures(t *testing.T) {
 		{[]api.Node{node.Leaf("a", "1"), node.Inner(1)}, 2, binds("a", "1"), 2, 2, []api.Ref{2, 1}},
 		{[]api.Node{node.Bucket(binds("b", "1", "a", "2")...), node.Tomb("c", "3"), node.Branch(9, []api.Ref{2, 1}, 7), node.Inner(3)}, 4, binds("c", "3", "a", "2", "b", "1"), 4, 3, []api.Ref{4, 3, 2, 1}},
 		{[]api.Node{node.Tree("x", "1", 0, 0, 1), node.Tree("y", "2", 0, 0, 1), node.Tree("z", "3", 2, 1, 3)}, 3, binds("y", "2", "z", "3", "x", "1"), 3, 2, []api.Ref{3, 2, 1}},
+		{[]api.Node{node.Tree("a", "1", 0, 0, 1), node.Tree("b", "2", 1, 0, 2), node.Tree("d", "4", 0, 0, 1), node.Tree("e", "5", 3, 0, 2), node.Tree("c", "3", 2, 4, 5)}, 5, binds("a", "1", "b", "2", "c", "3", "d", "4", "e", "5"), 5, 3, []api.Ref{5, 4, 3, 2, 1}},
 		{[]api.Node{node.Tree("x", "1", 0, 0, 1), node.Leaf("q", ""), node.Tree("z", "3", 0, 1, 2)}, 3, binds("z", "3", "x", "1"), 2, 2, []api.Ref{3, 1}},
 	} {
 		l, bad := heap.Binds(c.h, c.r)

@@ -61,8 +61,12 @@ func TestTop(t *testing.T) {
 	if s, ok := pri.Top("", ""); s != "" || !ok {
 		t.Errorf("Top of empty strings = %q, %v", s, ok)
 	}
-	for n := 1; n <= len(samples()); n++ {
-		l := samples()[:n]
+	for n := 1; n <= 2*len(samples()); n++ {
+		// In the second round the list is turned, so that its top comes last.
+		l := samples()[:min(n, len(samples()))]
+		if n > len(samples()) {
+			l = append(samples()[n-len(samples()):], l[:n-len(samples())]...)
+		}
 		top, ok := pri.Top(l...)
 		found := false
 		for _, s := range l {

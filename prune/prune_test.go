@@ -107,6 +107,50 @@ func TestDeletions(t *testing.T) {
 	}
 }
 
+// similar returns keys of which each shares a certain number of chunks with the first one: none, one, two or all of three.
+func similar() []string {
+	first := hash.Of("a", 15)
+	l := []string{"a"}
+	for shared := range 4 {
+		for i := 0; len(l) < 2*shared+3; i++ {
+			key := strconv.Itoa(i)
+			h := hash.Of(key, 15)
+			same := 0
+			for same < 3 && hash.Chunk(h, same, 15) == hash.Chunk(first, same, 15) {
+				same++
+			}
+			if same == shared {
+				l = append(l, key)
+			}
+		}
+	}
+	return l
+}
+
+// Promise 24.3: keys whose hashes differ late or not at all.
+func TestSimilar(t *testing.T) {
+	l := similar()
+	for chosen := range 1 << len(l) {
+		var part []api.Pair
+		for i, key := range l {
+			if chosen>>i&1 == 1 {
+				part = append(part, api.Pair{Key: key, Val: "v"})
+			}
+		}
+		h, r, _ := trie.Make(15, part...)
+		for _, p := range part {
+			m, _ := drive(t, h, r, p.Key, 15)
+			if out, ok := m.Plan(); ok {
+				checkPlan(t, h, r, out)
+			}
+			g, s, e := prune.Run(h, r, p.Key, 15)
+			if e != api.OK || !trie.Is(g, s, 15) || !slices.Equal(bound(g, s), pair.Drop(part, p.Key)) {
+				t.Errorf("deleting %s from %v: %v", p.Key, part, e)
+			}
+		}
+	}
+}
+
 // Promise 24.3.
 func TestInverse(t *testing.T) {
 	for _, bits := range []int{0, 1, 4, 7, 64} {
@@ -163,6 +207,10 @@ func TestBeside(t *testing.T) {
 	h, r, _ := trie.Make(64, binds("a", "1", "b", "2")...)
 	if _, read := drive(t, h, r, "a", 64); read != 3 {
 		t.Errorf("a root with two leaves: %d nodes", read)
+	}
+	one, top, _ := trie.Make(64, binds("a", "1")...)
+	if _, read := drive(t, one, top, "a", 64); read != 1 {
+		t.Errorf("a leaf alone: %d nodes", read)
 	}
 	more, s, _ := trie.Make(64, binds("a", "1", "b", "2", "c", "3")...)
 	if _, read := drive(t, more, s, "a", 64); read != 2 {

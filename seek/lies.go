@@ -13,23 +13,23 @@ func Lies(h []api.Node, r api.Ref, bits int) bool {
 	if _, code := heap.Count(h, r); code != api.OK {
 		return false
 	}
-	w := &walk{h: h, bits: bits, keys: map[string]int{}}
+	w := &walk{h: h, bits: bits}
 	return r == 0 || w.lies(r, nil)
 }
 
-// walk visits the nodes below a reference; keys holds the keys that it has met.
+// walk visits the nodes below a reference, and counts the bindings. It ends soon where there is more than one way to a
+// node: below that is no binding, or one whose hash has other chunks than one of the ways.
 type walk struct {
-	h      []api.Node
-	bits   int
-	keys   map[string]int
-	visits int
+	h     []api.Node
+	bits  int
+	count int
 }
 
 // lies reports whether r is well-formed at the end of a path of chunks.
 func (w *walk) lies(r api.Ref, path []int) bool {
-	n, ok := w.visit(r)
-	for ok && n.Kind == api.NInner {
-		n, ok = w.visit(n.Main)
+	n := w.h[r-1]
+	for n.Kind == api.NInner {
+		n = w.h[n.Main-1]
 	}
 	switch n.Kind {
 	case api.NLeaf, api.NTomb:
@@ -42,34 +42,22 @@ func (w *walk) lies(r api.Ref, path []int) bool {
 	return false
 }
 
-// visit returns the node of r, unless it is one too many: below a well-formed reference there is one way to each node.
-func (w *walk) visit(r api.Ref) (api.Node, bool) {
-	w.visits++
-	if w.visits > len(w.h) {
-		return api.Node{}, false
-	}
-	return w.h[r-1], true
-}
-
 // branch reports whether a branch is well-formed: with a binding below each child, and the right Size.
 func (w *walk) branch(n api.Node, path []int) bool {
-	before := len(w.keys)
+	before := w.count
 	for i, chunk := range mask.All(n.Map) {
-		had := len(w.keys)
-		if !w.lies(n.Kids[i], append(path, chunk)) || len(w.keys) == had {
+		had := w.count
+		if !w.lies(n.Kids[i], append(path, chunk)) || w.count == had {
 			return false
 		}
 	}
-	return n.Size == 0 || n.Size == len(w.keys)-before
+	return n.Size == 0 || n.Size == w.count-before
 }
 
-// bound reports whether the keys of a node are new and have the chunks of the path.
+// bound reports whether the hashes of a node's keys have the chunks of the path. So no key comes twice.
 func (w *walk) bound(n api.Node, path []int) bool {
 	for _, p := range node.Binds(n) {
-		if _, known := w.keys[p.Key]; known {
-			return false
-		}
-		w.keys[p.Key] = len(w.keys)
+		w.count++
 		h := hash.Of(p.Key, w.bits)
 		for level, chunk := range path {
 			if hash.Chunk(h, level, w.bits) != chunk {

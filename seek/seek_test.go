@@ -23,6 +23,10 @@ func many(n int) (l []api.Pair) {
 	for i := range n {
 		l = append(l, api.Pair{Key: "k" + strconv.Itoa(i), Val: strconv.Itoa(i)})
 	}
+	// The least of all keys is a key too.
+	if n > 2 {
+		l[2].Key = ""
+	}
 	return l
 }
 

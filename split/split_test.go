@@ -146,6 +146,9 @@ func TestErrors(t *testing.T) {
 			t.Errorf("Run with %v: %v, %d, %v", c, g, s, e)
 		}
 	}
+	if _, _, e := split.Run(h, r, graft.Put, long[1:], long[1:], ""); e != api.OK {
+		t.Errorf("strings of 16 bytes: %v", e)
+	}
 	if _, _, e := split.Run(h, r, graft.Swap, "a", "1", long); e != api.OK {
 		t.Errorf("a long old value: %v", e)
 	}

@@ -80,6 +80,9 @@ func TestLong(t *testing.T) {
 			t.Errorf("a long string: %v, %d, %v", h, r, e)
 		}
 	}
+	if _, _, e := tree.Make(binds(long[1:], long[1:])...); e != api.OK {
+		t.Error("strings of 16 bytes")
+	}
 	if _, _, e := tree.Make(binds("a", long, "a", "1")...); e != api.OK {
 		t.Error("a long value that sorting drops counts")
 	}

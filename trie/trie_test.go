@@ -102,6 +102,9 @@ func TestExamples(t *testing.T) {
 			t.Errorf("a long string: %v, %d, %v", h, r, e)
 		}
 	}
+	if _, _, e := trie.Make(64, binds(long[1:], long[1:])...); e != api.OK {
+		t.Error("strings of 16 bytes")
+	}
 	if _, _, e := trie.Make(64, binds("a", long, "a", "1")...); e != api.OK {
 		t.Error("a long value that sorting drops counts")
 	}
