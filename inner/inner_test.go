@@ -179,7 +179,7 @@ func TestBeside(t *testing.T) {
 		level, bits int
 		want        api.Ref
 	}{
-		{n, "a", 1, 64, 6}, {n, "b", 1, 64, 5}, {n, "a", 0, 64, 0}, {n, "a", -1, 64, 0}, {n, "a", 1, 0, 0},
+		{n, "a", 1, 64, 6}, {n, "b", 1, 64, 5}, {n, "a", 0, 64, 0}, {n, "a", -1, 64, 0}, {fan(1, map[string]api.Ref{"b": 6}), "a", -1, 64, 0}, {n, "a", 1, 0, 0},
 		{fan(1, map[string]api.Ref{"b": 6}), "a", 1, 64, 6}, {fan(1, map[string]api.Ref{"a": 5}), "a", 1, 64, 0},
 		{fan(1, map[string]api.Ref{"a": 5, "b": 6, "c": 7}), "a", 1, 64, 0}, {node.Branch(0, nil, 0), "a", 1, 64, 0},
 		{node.Leaf("b", ""), "a", 1, 64, 0}, {node.Tree("k", "", 0, 5, 1), "a", 1, 64, 0}, {node.Inner(6), "a", 1, 64, 0}, {api.Node{}, "a", 1, 64, 0},

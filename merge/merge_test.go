@@ -8,6 +8,7 @@ import (
 	"boscage/node"
 	"boscage/pair"
 	"boscage/plan"
+	"boscage/pri"
 	"boscage/split"
 	"boscage/tree"
 	"slices"
@@ -62,6 +63,38 @@ func checkPlan(t *testing.T, h []api.Node, r api.Ref, p plan.Plan, read int) {
 	}
 }
 
+// received returns how many nodes a deletion receives by the chapter's words.
+func received(h []api.Node, r api.Ref, key string) int {
+	count := 0
+	for r != 0 {
+		n := h[r-1]
+		count++
+		if n.Key == key {
+			a, b := n.Kids[0], n.Kids[1]
+			if a != 0 && b != 0 {
+				count += 2
+			}
+			for a != 0 && b != 0 {
+				if pri.Above(h[a-1].Key, h[b-1].Key) {
+					a = h[a-1].Kids[1]
+				} else {
+					b = h[b-1].Kids[0]
+				}
+				if a != 0 && b != 0 {
+					count++
+				}
+			}
+			return count
+		}
+		side := 0
+		if key > n.Key {
+			side = 1
+		}
+		r = n.Kids[side]
+	}
+	return count
+}
+
 // Promises 28.1 to 28.3.
 func TestDeletions(t *testing.T) {
 	h, root, _ := tree.Make(many(100)...)
@@ -82,7 +115,7 @@ func TestDeletions(t *testing.T) {
 			read++
 		}
 		p, ok := m.Plan()
-		if v, is := m.Answer(); v != was || is != has || ok != has || read > len(want) {
+		if v, is := m.Answer(); v != was || is != has || ok != has || read > len(want) || read != received(h, root, key) {
 			t.Fatalf("%s: %q, %v; Plan %v; %d nodes", key, v, is, ok, read)
 		}
 		if ok {
