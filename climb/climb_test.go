@@ -93,6 +93,9 @@ func checkRetired(t *testing.T, g *ground.Ground, kept bool) {
 	var all []api.Ref
 	for _, group := range g.X.All() {
 		for _, x := range group.L {
+			if n, _ := g.M.Look(x.Ref); n.Birth != x.Birth {
+				t.Errorf("%v was retired with the Birth %d", n, x.Birth)
+			}
 			if !kept || !slices.Contains(reach, x.Ref) {
 				all = append(all, x.Ref)
 			}
@@ -174,6 +177,155 @@ func TestErrors(t *testing.T) {
 	}
 }
 
+// step executes some steps of an operation.
+func step(s *climb.Climb, n int) (a api.Answer, done bool) {
+	for range n {
+		a, done = s.Step()
+	}
+	return a, done
+}
+
+// Promise 36.1: what an OpPut leaves in the memory on its way, in another epoch and generation.
+func TestSteps(t *testing.T) {
+	g := lay(t, config(20, 2, 64))
+	g.M.Store(1, api.Word{Tag: 7})
+	snapshot(g, 0)
+	root, begun := g.M.Peek(0), g.Steps()
+	s, _ := climb.New(g, 1, api.Call{Op: api.OpPut, Key: "a", Val: "1"})
+	for i := range 11 {
+		note := api.Word{}
+		if i >= 2 {
+			note.Tag = 7
+		}
+		top, _ := g.M.Look(root.Ref)
+		if used := 3 + min(max(i-5, 0), 2); g.M.Peek(3) != note || g.M.Used() != used || (top.Main != 1025) != (i >= 8) || g.Steps() != begun+i || (len(g.X.All()) > 0) != (i >= 10) {
+			t.Errorf("before step %d: note %v, %d used, main %d, %v", i, g.M.Peek(3), g.M.Used(), top.Main, g.X.All())
+		}
+		if a, done := s.Step(); a != (api.Answer{}) || done != (i == 10) {
+			t.Errorf("step %d: %v, %v", i, a, done)
+		}
+	}
+	l := g.X.All()
+	if len(l) != 1 || l[0].Stamp != 7 || l[0].Death != 1 || len(l[0].L) != 1 || l[0].L[0].Ref != 1025 || l[0].L[0].Birth != 0 || g.M.Peek(3) != (api.Word{}) {
+		t.Errorf("the lists contain %v", l)
+	}
+	for _, r := range []api.Ref{1028, 1029} {
+		if n, ok := g.M.Look(r); !ok || n.Birth != 1 && n.Kind == api.NLeaf {
+			t.Errorf("a new node is %v", n)
+		}
+	}
+}
+
+// alike returns keys with the same hash of one bit, and one with the other.
+func alike() (same []string, other string) {
+	for i := range 40 {
+		key := strconv.Itoa(i)
+		if hash.Of(key, 1) == 0 {
+			same = append(same, key)
+		} else {
+			other = key
+		}
+	}
+	return same, other
+}
+
+// buried makes a map of one bit in which a bucket of two keys and a leaf are below the root.
+func buried(t *testing.T) (g *ground.Ground, first, second, other string) {
+	t.Helper()
+	same, other := alike()
+	g = lay(t, config(60, 2, 1))
+	for _, key := range []string{same[0], same[1], other} {
+		climb.Run(g, 0, api.Call{Op: api.OpPut, Key: key, Val: "v"})
+	}
+	return g, same[0], same[1], other
+}
+
+// tombs returns the number of reachable NTombs.
+func tombs(g *ground.Ground) int {
+	count := 0
+	reach, _ := g.Reach()
+	for _, r := range reach {
+		if n, _ := g.M.Look(r); n.Kind == api.NTomb {
+			count++
+		}
+	}
+	return count
+}
+
+// Promises 36.1 and 36.2: an OpDrop that leaves one key in a bucket moves that one up.
+func TestRise(t *testing.T) {
+	g, first, second, other := buried(t)
+	a, steps, _ := climb.Run(g, 0, api.Call{Op: api.OpDrop, Key: first})
+	reach, _ := g.Reach()
+	if a != yes("v") || steps != 21 || tombs(g) != 0 || len(reach) != 4 || len(bound(t, g)) != 2 {
+		t.Errorf("OpDrop: %v, %d steps, %d nodes reachable", a, steps, len(reach))
+	}
+	checkRetired(t, g, false)
+	for cut := range 22 {
+		g, first, second, other = buried(t)
+		s, _ := climb.New(g, 0, api.Call{Op: api.OpDrop, Key: first})
+		step(s, cut)
+		climb.Run(g, 1, api.Call{Op: api.OpPut, Key: other, Val: "w"})
+		a, done := step(s, 1)
+		for !done {
+			a, done = s.Step()
+		}
+		want := []api.Pair{{Key: second, Val: "v"}, {Key: other, Val: "w"}}
+		if other < second {
+			slices.Reverse(want)
+		}
+		if cut < 21 && a != yes("v") || tombs(g) != 0 || !slices.Equal(bound(t, g), want) {
+			t.Errorf("cut at %d: %v, %d tombs, %v", cut, a, tombs(g), bound(t, g))
+		}
+		checkRetired(t, g, false)
+	}
+}
+
+// Promise 36.2: when the root changes, or no slot is free, moving up ends, and the answer is not affected.
+func TestRiseEnds(t *testing.T) {
+	for cut := 13; cut < 18; cut++ {
+		g, first, second, _ := buried(t)
+		s, _ := climb.New(g, 0, api.Call{Op: api.OpDrop, Key: first})
+		step(s, cut)
+		snapshot(g, 0)
+		a, done := s.Step()
+		for !done {
+			a, done = s.Step()
+		}
+		if a != yes("v") || tombs(g) != 1 {
+			t.Errorf("cut at %d by a snapshot: %v, %d tombs", cut, a, tombs(g))
+		}
+		if a, _, _ := climb.Run(g, 1, api.Call{Op: api.OpGet, Key: second}); a != yes("v") {
+			t.Errorf("cut at %d by a snapshot: then %v", cut, a)
+		}
+		if a, _, _ := climb.Run(g, 1, api.Call{Op: api.OpPut, Key: second, Val: "w"}); a != yes("v") || tombs(g) != 1 {
+			t.Errorf("cut at %d by a snapshot: then %v, %d tombs", cut, a, tombs(g))
+		}
+		checkRetired(t, g, true)
+	}
+	for free := range 4 {
+		g, first, second, _ := buried(t)
+		for g.M.Used() < 60-free {
+			g.M.Take(node.Leaf("", ""))
+		}
+		live := g.M.Used()
+		a, steps, _ := climb.Run(g, 0, api.Call{Op: api.OpDrop, Key: first})
+		want, left := yes("v"), 1
+		switch free {
+		case 0:
+			want, left = api.Answer{Code: api.ErrFull}, 0
+		case 3:
+			left = 0
+		}
+		if a != want || tombs(g) != left || g.M.Used() != live+min(free, 1)+2*max(free-2, 0) || steps != []int{11, 17, 19, 21}[free] {
+			t.Errorf("%d slots free: %v, %d steps, %d tombs, %d of %d used", free, a, steps, tombs(g), g.M.Used(), live)
+		}
+		if a, _, _ := climb.Run(g, 0, api.Call{Op: api.OpGet, Key: second}); a != yes("v") {
+			t.Errorf("%d slots free: then %v", free, a)
+		}
+	}
+}
+
 // Promise 36.2: ErrFull.
 func TestFull(t *testing.T) {
 	g := lay(t, config(3, 1, 4))
@@ -229,6 +381,9 @@ func TestAlone(t *testing.T) {
 					if l, ok := g.Binds(g.M.Peek(call.Handle(c, snaps-1)).Ref); !ok || !slices.Equal(l, held) {
 						t.Fatalf("%d bits: the snapshot contains %v, want %v", bits, l, held)
 					}
+				}
+				if tombs(g) != 0 {
+					t.Fatalf("%d bits: %v leaves a tomb", bits, x)
 				}
 				checkRetired(t, g, snaps > 0)
 			}

@@ -83,6 +83,9 @@ func checkRetired(t *testing.T, g *ground.Ground) {
 	var retired []api.Ref
 	for _, group := range g.X.All() {
 		for _, x := range group.L {
+			if n, _ := g.M.Look(x.Ref); n.Birth != x.Birth {
+				t.Errorf("%v was retired with the Birth %d", n, x.Birth)
+			}
 			if slices.Contains(retired, x.Ref) {
 				t.Errorf("%d was retired twice", x.Ref)
 			}
@@ -160,6 +163,120 @@ func TestFull(t *testing.T) {
 	}
 	if a, steps := run(t, lay(t, config(api.Hamt, 9, 1, 1, 4)), api.Call{Op: api.OpSnap}); a != (api.Answer{}) || steps != 6 {
 		t.Errorf("OpSnap: %v, %d steps", a, steps)
+	}
+}
+
+// Promise 37.2: what an OpSnap leaves in the memory on its way, in another epoch.
+func TestSnapSteps(t *testing.T) {
+	for _, kind := range []int{api.Treap, api.Ctrie} {
+		g := lay(t, config(kind, 20, 2, 2, 4))
+		g.M.Store(1, api.Word{Tag: 7})
+		run(t, g, api.Call{Op: api.OpPut, Key: "a", Val: "1"})
+		root, groups := g.M.Peek(0), len(g.X.All())
+		steps := 6
+		held := api.Word{Ref: root.Ref, Tag: root.Tag}
+		if kind == api.Ctrie {
+			steps = 12
+		}
+		s, _ := hand.New(g, 1, api.Call{Op: api.OpSnap})
+		for i := range steps {
+			note, handle := api.Word{}, api.Word{Tag: -1, Id: -2}
+			if i >= 2 {
+				note.Tag = 7
+			}
+			switch {
+			case kind == api.Treap && i >= 5, kind == api.Ctrie && i >= 9:
+				handle = held
+			case kind == api.Ctrie && i >= 4:
+				handle = api.Word{Tag: -2}
+			}
+			if turned := g.M.Peek(0) != root; g.M.Peek(3) != note || g.M.Peek(4) != handle || turned != (kind == api.Ctrie && i >= 8) || (len(g.X.All()) > groups) != (i >= 11) {
+				t.Errorf("kind %d, before step %d: note %v, handle %v, root %v", kind, i, g.M.Peek(3), g.M.Peek(4), g.M.Peek(0))
+			}
+			if a, done := s.Step(); a != (api.Answer{}) || done != (i == steps-1) {
+				t.Errorf("kind %d, step %d: %v, %v", kind, i, a, done)
+			}
+		}
+		if kind == api.Treap {
+			continue
+		}
+		top, _ := g.M.Look(g.M.Peek(0).Ref)
+		old, _ := g.M.Look(root.Ref)
+		l := g.X.All()[groups:]
+		if g.M.Peek(0).Tag != 1 || top.Birth != 1 || top.Main != old.Main || len(l) != 1 || l[0].Stamp != 7 || l[0].Death != 1 || len(l[0].L) != 1 || l[0].L[0].Ref != root.Ref {
+			t.Errorf("the new root is %v, the lists contain %v", top, l)
+		}
+	}
+}
+
+// Promises 37.2 and 37.3: what an OpGetAt leaves in the memory on its way, and an OpFree between its steps.
+func TestReadSteps(t *testing.T) {
+	for _, kind := range []int{api.Hamt, api.Treap, api.Ctrie} {
+		g := lay(t, config(kind, 20, 2, 2, 4))
+		for range 3 {
+			run(t, g, api.Call{Op: api.OpPut, Key: "a", Val: "1"})
+		}
+		run(t, g, api.Call{Op: api.OpSnap})
+		version := g.M.Peek(4).Tag
+		s, _ := hand.New(g, 1, api.Call{Op: api.OpGetAt, Key: "a"})
+		for i, done := 0, false; !done; i++ {
+			if note := g.M.Peek(3); (note == api.Word{Id: version + 1}) != (i >= 2) || i < 2 && note != (api.Word{}) {
+				t.Errorf("kind %d, before step %d: note %v", kind, i, note)
+			}
+			_, done = s.Step()
+		}
+		if g.M.Peek(3) != (api.Word{}) {
+			t.Errorf("kind %d: the note %v remains", kind, g.M.Peek(3))
+		}
+		first, _ := hand.New(g, 0, api.Call{Op: api.OpFree})
+		second, _ := hand.New(g, 1, api.Call{Op: api.OpFree})
+		first.Step()
+		second.Step()
+		a, x := first.Step()
+		b, y := second.Step()
+		if a != (api.Answer{}) || b != (api.Answer{Code: api.ErrHandle}) || !x || !y || g.M.Peek(4) != (api.Word{Tag: -1}) {
+			t.Errorf("kind %d, two OpFrees: %v, %v, the handle %v", kind, a, b, g.M.Peek(4))
+		}
+	}
+}
+
+// Promise 37.2: two OpSnaps that want the same handle, and one whose root changes.
+func TestSnapRaces(t *testing.T) {
+	for _, kind := range []int{api.Hamt, api.Ctrie} {
+		g := lay(t, config(kind, 20, 2, 2, 4))
+		first, _ := hand.New(g, 0, api.Call{Op: api.OpSnap})
+		second, _ := hand.New(g, 1, api.Call{Op: api.OpSnap})
+		for range 4 {
+			first.Step()
+			second.Step()
+		}
+		for i, s := range []*hand.Hand{first, second} {
+			a, done := s.Step()
+			for !done {
+				a, done = s.Step()
+			}
+			if a != (api.Answer{N: i}) {
+				t.Errorf("kind %d: OpSnap %d returns %v", kind, i, a)
+			}
+		}
+	}
+	g := lay(t, config(api.Ctrie, 20, 2, 2, 4))
+	s, _ := hand.New(g, 1, api.Call{Op: api.OpSnap})
+	for range 7 {
+		s.Step()
+	}
+	run(t, g, api.Call{Op: api.OpPut, Key: "a", Val: "1"})
+	used := g.M.Used()
+	s.Step()
+	if s.Step(); g.M.Used() != used-1 || g.M.Peek(0).Tag != 0 {
+		t.Errorf("after a Turn that fails: %d of %d used, generation %d", g.M.Used(), used, g.M.Peek(0).Tag)
+	}
+	a, done := s.Step()
+	for !done {
+		a, done = s.Step()
+	}
+	if l, ok := g.Binds(g.M.Peek(4).Ref); a != (api.Answer{}) || !ok || len(l) != 1 || g.M.Peek(0).Tag != 1 {
+		t.Errorf("then: %v, the snapshot contains %v", a, l)
 	}
 }
 

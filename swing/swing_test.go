@@ -220,6 +220,9 @@ func checkRetired(t *testing.T, g *ground.Ground) {
 	var retired []api.Ref
 	for _, group := range g.X.All() {
 		for _, x := range group.L {
+			if n, _ := g.M.Look(x.Ref); n.Birth != x.Birth {
+				t.Errorf("%v was retired with the Birth %d", n, x.Birth)
+			}
 			retired = append(retired, x.Ref)
 		}
 	}
