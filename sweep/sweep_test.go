@@ -82,8 +82,8 @@ func TestExample(t *testing.T) {
 	g := lay(t, config(api.Treap, 20, 2, 1, 0))
 	run(t, g, put("a"))
 	run(t, g, put("a"))
-	if a, steps := run(t, g, api.Call{Op: api.OpSweep}); a != (api.Answer{N: 1}) || steps != 11 || g.M.Used() != 1 {
-		t.Errorf("the first sweep: %v, %d steps, %d used", a, steps, g.M.Used())
+	if a, steps, e := sweep.Run(g, 1, api.Call{Op: api.OpSweep}); a != (api.Answer{N: 1}) || steps != 11 || e != api.OK || g.M.Used() != 1 {
+		t.Errorf("the first sweep: %v, %d steps, %v, %d used", a, steps, e, g.M.Used())
 	}
 	run(t, g, api.Call{Op: api.OpSnap})
 	run(t, g, put("a"))
@@ -241,6 +241,41 @@ func TestNotes(t *testing.T) {
 			if a, _ := run(t, g, api.Call{Op: api.OpSweep}); a.N != min(stop/2, 1) || g.M.Used() != 1 {
 				t.Errorf("kind %d, the last sweep frees %d", kind, a.N)
 			}
+		}
+	}
+}
+
+// Promise 38.3: a snapshot that is released while a sweep runs, but is still read.
+func TestReleased(t *testing.T) {
+	for _, kind := range []int{api.Hamt, api.Treap, api.Ctrie} {
+		for cut := range 13 {
+			g := lay(t, config(kind, 30, 3, 1, 4))
+			run(t, g, put("a"))
+			run(t, g, api.Call{Op: api.OpSnap})
+			run(t, g, put("a"))
+			s, _ := begin(g, 0, api.Call{Op: api.OpSweep})
+			for range cut {
+				s.Step()
+			}
+			reader, _ := begin(g, 2, api.Call{Op: api.OpGetAt, Key: "a"})
+			for range 3 {
+				reader.Step()
+			}
+			free, _ := begin(g, 1, api.Call{Op: api.OpFree})
+			for done := false; !done; {
+				_, done = free.Step()
+			}
+			for done := false; !done; {
+				_, done = s.Step()
+			}
+			var a api.Answer
+			for done := false; !done; {
+				a, done = reader.Step()
+			}
+			if a != (api.Answer{Has: true, Val: "v"}) || g.M.Faults() != 0 {
+				t.Errorf("kind %d, a sweep cut at %d: %v, %d faults", kind, cut, a, g.M.Faults())
+			}
+			checkSweep(t, g)
 		}
 	}
 }
