@@ -4,7 +4,6 @@ import (
 	"boscage/api"
 	"boscage/hist"
 	"boscage/model"
-	"boscage/pair"
 	"slices"
 	"strconv"
 	"strings"
@@ -143,8 +142,8 @@ func (s *search) useful(placed set, state model.State, i int) bool {
 	if !x.writes() {
 		return true
 	}
-	val, has := pair.Get(state.L, x.C.Key)
-	now := x.becomes(value{has, val})
+	a, _ := model.Answer(s.c, state, api.Call{Op: api.OpGet, Key: x.C.Key})
+	now := x.becomes(value{a.Has, a.Val})
 	for j, y := range s.deeds {
 		if i == j || placed>>j&1 == 1 {
 			continue
