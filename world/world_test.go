@@ -187,6 +187,9 @@ func random(d *dice, w *world.World, n int) api.Entry {
 func check(t *testing.T, w *world.World) {
 	t.Helper()
 	g := w.Ground()
+	if l, e := hist.Pending(w.History()); e != api.OK || !slices.Equal(l, w.Pending()) {
+		t.Fatalf("pending %v, in the history %v", w.Pending(), l)
+	}
 	if _, stale := g.Reach(); w.Most() > 1 || g.M.Faults() != 0 || stale != 0 {
 		t.Fatalf("most %d, %d faults, %d stale", w.Most(), g.M.Faults(), stale)
 	}
